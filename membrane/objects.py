@@ -20,6 +20,21 @@ def parent_of(thing):
     return thing[2]
 
 
+def values_in(operation):
+    """The values that stand in an operation, in their order."""
+    word = operation[0]
+    if word == "get":
+        return (operation[2],)
+    if word == "put":
+        return operation[2:]
+    if word == "call":
+        return (operation[1],) + operation[2]
+    if word == "define":
+        member = operation[2]
+        return (member[1],) if member[0] == "data" else member[1:3]
+    return ()
+
+
 def may_grow(thing):
     """True if the object or func is open."""
     if thing[0] == "func":

@@ -4,6 +4,7 @@ NONE = ("none",)
 REVOKER = ("revoker",)
 INTEGER_BOUND = 2 ** 64
 LONGEST_TEXT = 200
+LONGEST_NAME = 8
 PERCENT_SIGN = 37
 
 
@@ -44,6 +45,11 @@ def fits_text(s):
 def is_character(c):
     """True if the character may stand in a text."""
     return c == "\n" or (" " <= c <= "~" and ord(c) != PERCENT_SIGN)
+
+
+def is_name(x):
+    """True for a name."""
+    return isinstance(x, str) and 1 <= len(x) <= LONGEST_NAME and all("a" <= c <= "z" for c in x)
 
 
 def truth(v):

@@ -3,6 +3,8 @@
 import doctest
 import unittest
 
+from membrane.errors import BadProgram
+
 VALUES = """
 >>> from membrane.values import combined
 >>> combined("+", ("text", "a"), ("text", "b")), combined("<", ("int", 1), ("bool", True))
@@ -29,6 +31,28 @@ CLOSED = """
 ('raise', 'closed')
 """
 
+PROGRAMS = """
+>>> from membrane.programs import check_block
+>>> check_block((("let", "x", ("name", "y")), ("while", ("name", "x"), ())))
+raises BadProgram
+"""
+
+PLAIN = """
+>>> from membrane.plain import Plain
+>>> plain = Plain((), (("hide", "b"),))
+>>> first = plain.run("right", (("let", "o", ("object", (("a", ("const", ("int", 5))), ("b", ("const", ("int", 6)))), ())),), 100)
+>>> told = plain.hand("right", "o")
+>>> second = plain.run("left", (("print", ("get", ("name", "o"), "a")), ("print", ("has", ("name", "o"), "b"))), 100)
+>>> first, told, second, plain.outs
+(('over', True, ('none',)), True, ('over', True, ('none',)), ['5\\nFalse\\n', ''])
+"""
+
+POLICIES = """
+>>> from membrane.policies import asked
+>>> asked((("hide", "a"),), 0, ("get", "a", ("none",))), asked((("only", 1, ("nocall",)),), 0, ("call", ("none",), ()))
+(('answer', False, ('text', 'no such name')), ('go',))
+"""
+
 
 class ExamplesTest(unittest.TestCase):
     def assert_holds(self, name, text):
@@ -38,6 +62,16 @@ class ExamplesTest(unittest.TestCase):
         result = doctest.DocTestRunner(verbose=False).run(example, out=said.append)
         self.assertEqual(result.failed, 0, "".join(said))
 
+    def assert_raises(self, name, text, error):
+        """The last line of the example raises the error, the lines ahead of it do not."""
+        example = doctest.DocTestParser().get_doctest(text, {}, name, None, 0)
+        names = {}
+        for line in example.examples[:-1]:
+            exec(line.source, names)
+        with self.assertRaises(error):
+            exec(example.examples[-1].source, names)
+        self.assertEqual(example.examples[-1].want, f"raises {error.__name__}\n")
+
     def test_values(self):
         self.assert_holds("values", VALUES)
 
@@ -45,6 +79,15 @@ class ExamplesTest(unittest.TestCase):
         for name, text in (("parent", PARENT), ("put", PUT), ("closed", CLOSED)):
             with self.subTest(name=name):
                 self.assert_holds(name, text)
+
+    def test_programs(self):
+        self.assert_raises("programs", PROGRAMS, BadProgram)
+
+    def test_plain(self):
+        self.assert_holds("plain", PLAIN)
+
+    def test_policies(self):
+        self.assert_holds("policies", POLICIES)
 
 
 if __name__ == "__main__":

@@ -13,7 +13,7 @@ import unittest
 import warnings
 from pathlib import Path
 
-from membrane import errors, objects, values
+from membrane import errors, objects, plain, policies, programs, values
 
 PACKAGE = Path(__file__).resolve().parent.parent / "membrane"
 
@@ -21,6 +21,13 @@ INTERFACE = {
     errors: ("MembraneError", "BadProgram", "BadPolicy", "BadState", "BadTrace"),
     values: ("is_value(v)", "truth(v)", "kind(heap, v)", "text_of(heap, v)", "combined(op, a, b)"),
     objects: ("perform(heap, k, operation)", "members_of(thing)", "parent_of(thing)"),
+    programs: ("check_block(block)",),
+    plain: ("Plain(left, right)",),
+    policies: ("check_policy(policy)", "asked(policy, n, operation)", "shown_names(policy, n, names)"),
+}
+
+METHODS = {
+    plain.Plain: ("run(self, side, block, fuel)", "hand(self, side, x)", "revoke(self)", "text(self, v)"),
 }
 
 LIBRARY = {
@@ -211,6 +218,14 @@ class InterfaceTest(unittest.TestCase):
                 if bracket:
                     with self.subTest(words=words):
                         self.assertEqual(name + str(inspect.signature(getattr(module, name))), words)
+
+    def test_methods(self):
+        for owner, told in METHODS.items():
+            for words in told:
+                name = words.partition("(")[0]
+                with self.subTest(words=words):
+                    # In the class itself, not in a base class.
+                    self.assertEqual(name + str(inspect.signature(vars(owner)[name])), words)
 
 
 if __name__ == "__main__":

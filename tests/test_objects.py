@@ -2,7 +2,7 @@
 
 import unittest
 
-from membrane.objects import members_of, parent_of, perform
+from membrane.objects import members_of, parent_of, perform, values_in
 
 NONE = ("none",)
 DONE = ("value", NONE)
@@ -421,6 +421,22 @@ class PartsTest(unittest.TestCase):
             for is_open in (True, False):
                 self.assertEqual(members_of(a_func(members, is_open)), members)
                 self.assertEqual(parent_of(a_func(members, is_open)), NONE)
+
+
+class ValuesInTest(unittest.TestCase):
+    def test_the_values_in_their_order(self):
+        one, two = ("int", 1), ("ref", 2)
+        for operation, values in (
+            (("get", "a", one), (one,)),
+            (("put", "a", one, two), (one, two)),
+            (("define", "a", ("data", one, True)), (one,)),
+            (("define", "a", ("ask", two, one, False)), (two, one)),
+            (("call", two, ()), (two,)),
+            (("call", two, (one, NONE, two)), (two, one, NONE, two)),
+            (("has", "a"), ()), (("drop", "a"), ()), (("look", "a"), ()), (("fix", "a"), ()),
+            (("names",), ()), (("parent",), ()), (("close",), ()), (("is_open",), ()),
+        ):
+            self.assertEqual(values_in(operation), values)
 
 
 if __name__ == "__main__":
