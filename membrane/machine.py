@@ -6,6 +6,7 @@ from membrane.scopes import let_variable
 from membrane.values import NONE, REVOKER
 
 MOST_DEPTH = 20
+LONGEST_OUT = 10000
 
 # A frame: what is given below it is none instead (an outcome next with use False).
 NOT_USED = ("not used",)
@@ -15,18 +16,18 @@ class Machine:
     """Runs code; what it is doing is a list of frames, tuples, and a step does some work at the last one.
 
     A class below has the methods that tell what its objects are and what lies outside of them: is_own(value),
-    keep(thing), write(text), may_begin(), request(value, operation), answer(frame, ok, value) and revoke().
+    keep(thing), write(text), may_begin(), request(value, operation), answer(frame, ok, value), revoke() and
+    end_turn(ok, value). Its __init__ sets up the machine.
     """
 
-    def __init__(self, heap):
+    def set_up(self, heap):
+        """The machine does nothing yet."""
         self.heap = heap
         self.depth = 0
         self.doing = []
-        self.last_end = ()
 
     def begin_turn(self, block, env):
-        """Begins a turn that runs the block in the scope env; last_end is empty until the turn has ended."""
-        self.last_end = ()
+        """Begins a turn that runs the block in the scope env."""
         self.doing = [("turn",)]
         self.run_block(block, env)
 
@@ -59,6 +60,13 @@ class Machine:
     def refuse(self, words):
         """Raises the text of what is refused."""
         self.throw(("text", words))
+
+    def end_operation(self, ok, v):
+        """Gives or raises the value with which an operation has ended elsewhere."""
+        if ok:
+            self.give(v)
+        else:
+            self.throw(v)
 
     def settle(self, outcome):
         """Ends an operation by its outcome, which is no next."""
@@ -158,7 +166,7 @@ def step_raised(machine, frame):
     elif below[0] == "answer":
         machine.answer(below, False, v)
     elif below[0] == "turn":
-        machine.last_end = (False, v)
+        machine.end_turn(False, v)
     else:
         if below[0] == "call":
             machine.depth -= 1
@@ -171,7 +179,7 @@ def step_returned(machine, frame):
         machine.depth -= 1
         machine.give(frame[1])
     elif below[0] == "turn":
-        machine.last_end = (True, frame[1])
+        machine.end_turn(True, frame[1])
     else:
         machine.doing.append(frame)
 
@@ -187,7 +195,7 @@ def step_call(machine, frame):
 
 
 def step_turn(machine, frame):
-    machine.last_end = (True, NONE)
+    machine.end_turn(True, NONE)
 
 
 FRAMES = {

@@ -35,6 +35,17 @@ def values_in(operation):
     return ()
 
 
+def with_values(operation, values):
+    """The operation with other values, a tuple of as many as stand in it."""
+    word = operation[0]
+    if word == "call":
+        return (word, values[0], values[1:])
+    if word == "define":
+        member = operation[2]
+        return (word, operation[1], member[:1] + values + member[-1:])
+    return operation[:2] + values
+
+
 def may_grow(thing):
     """True if the object or func is open."""
     if thing[0] == "func":

@@ -1,13 +1,12 @@
 """The plain world: both sides in one heap, in which the owners' policies refuse what they refuse (q1 to q5)."""
 
-from membrane.machine import MOST_DEPTH, Machine
-from membrane.objects import members_of, values_in
-from membrane.policies import asked, shown_names
-from membrane.scopes import NOWHERE, has_variable, let_variable, variable
-from membrane.values import NONE, text_of
+from membrane.machine import LONGEST_OUT, Machine
+from membrane.objects import values_in
+from membrane.replies import reply_at_once
+from membrane.scopes import MODULE, has_variable, let_variable, variable
+from membrane.values import text_of
 
 SIDES = ("left", "right")
-LONGEST_OUT = 10000
 
 
 def place_of(side):
@@ -19,8 +18,7 @@ class Plain(Machine):
     """A plain world; left and right are the policies of both sides."""
 
     def __init__(self, left, right):
-        module = ("scope", (("me", NONE),), NOWHERE)
-        Machine.__init__(self, [module, module])
+        self.set_up([MODULE, MODULE])
         self.policies = (left, right)
         self.owners = list(SIDES)
         self.modules = (0, 1)
@@ -32,18 +30,19 @@ class Plain(Machine):
         # The side as which code runs.
         self.side = "left"
         self.fuel = 0
+        # How the last run has ended.
+        self.told = ("long",)
 
     def run(self, side, block, fuel):
         """A turn of the side: ("over", ok, v), or ("long",) if it would take more than the fuel."""
         self.side = side
         self.fuel = fuel
+        self.told = ("long",)
         self.begin_turn(block, self.modules[place_of(side)])
         while len(self.doing) > 0:
             self.step()
         self.depth = 0
-        if self.last_end == ():
-            return ("long",)
-        return ("over",) + self.last_end
+        return self.told
 
     def hand(self, side, x):
         """The variable x of the side's module becomes one of the other's module; False if nothing is done."""
@@ -98,6 +97,10 @@ class Plain(Machine):
         self.fuel -= 1
         return True
 
+    def end_turn(self, ok, value):
+        """The turn has ended."""
+        self.told = ("over", ok, value)
+
     def request(self, value, operation):
         """Does an operation of the side that runs on an object of the other side."""
         if self.revoked:
@@ -105,28 +108,19 @@ class Plain(Machine):
             return
         for v in values_in(operation):
             self.hand_over(self.side, v)
-        reply = self.reply_at_once(value[1], operation)
+        k = value[1]
+        policy = self.policies[place_of(self.owners[k])]
+        reply = reply_at_once(policy, self.numbers[k], self.heap[k], operation, self.depth)
         if reply[0] == "denied":
             self.refuse("denied")
         elif reply[0] == "answer":
-            self.doing.append(("given" if reply[1] else "raised", reply[2]))
-        elif self.depth >= MOST_DEPTH:
-            self.refuse("too deep")
+            self.end_operation(reply[1], reply[2])
         else:
             self.doing.append(("answer", self.side))
-            self.side = self.owners[value[1]]
+            self.side = self.owners[k]
             self.depth += 1
             # The owner begins with the next step, so that sides that ask each other are no nested calls.
             self.doing.append(("operate", value, operation))
-
-    def reply_at_once(self, k, operation):
-        """What is said of a request on the object k before it is done, as by asked."""
-        policy = self.policies[place_of(self.owners[k])]
-        n = self.numbers[k]
-        if operation[0] != "names":
-            return asked(policy, n, operation)
-        names = shown_names(policy, n, [x for x, _ in members_of(self.heap[k])])
-        return ("answer", True, ("text", " ".join(names)))
 
     def answer(self, frame, ok, value):
         """An operation that was done for the other side, which is told in the frame, has ended."""
@@ -137,4 +131,4 @@ class Plain(Machine):
             self.refuse("revoked")
             return
         self.hand_over(owner, value)
-        self.doing.append(("given" if ok else "raised", value))
+        self.end_operation(ok, value)

@@ -108,7 +108,7 @@ def check_expression_or_none(thing, blocks, level):
 
 
 def word_of(thing):
-    """The word with which an expression or a statement begins, empty for what is neither."""
+    """The word with which an expression, a statement and the like begins, empty for what has none."""
     if isinstance(thing, tuple) and len(thing) > 0 and isinstance(thing[0], str):
         return thing[0]
     return ""

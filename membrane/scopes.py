@@ -2,6 +2,9 @@
 
 NOWHERE = -1
 
+# The scope of a module at the beginning.
+MODULE = ("scope", (("me", ("none",)),), -1)
+
 
 def has_variable(scope, x):
     """True if the scope itself has the variable x."""

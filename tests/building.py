@@ -1,7 +1,10 @@
 """Short words for programs, and for running them in a plain world."""
 
+from membrane import world
 from membrane.plain import Plain
 from membrane.programs import check_block
+from membrane.traces import check_trace
+from membrane.values import kind, text_of
 
 NONE = ("none",)
 REVOKER = ("const", ("revoker",))
@@ -93,6 +96,12 @@ def attempt(*statements):
     return ("try", statements, "e", (show(plus(words("!"), name("e"))),))
 
 
+def at_depth(f, *statements):
+    """A function f of n that runs the statements n calls deep, itself the first one, and returns what they return."""
+    deeper = ("if", ("bin", "<", num(1), name("n")), (back(call(name(f), less_one("n"))),), ())
+    return func(("n",), deeper, *statements)
+
+
 # A function that prints its argument and returns it: it shows what is evaluated, when and how often.
 SAY = let("say", func(("v",), show(name("v")), back(name("v"))))
 
@@ -110,11 +119,65 @@ def ended(value):
     return ("over", True, value)
 
 
+SIDES = ("left", "right")
+OTHER = {"left": "right", "right": "left"}
+
+
+class Both(Plain):
+    """A plain world beside which a world with a membrane does the same deeds; they must amount to the same (q5)."""
+
+    def __init__(self, left, right):
+        Plain.__init__(self, left, right)
+        # None when the two are not to be compared any more.
+        self.world = world.World(left, right)
+
+    def run(self, side, block, fuel):
+        end = Plain.run(self, side, block, fuel)
+        if end == LONG:
+            self.world = None
+        if self.world is not None:
+            self.world.begin(side, block)
+            while self.world.state() != "":
+                self.world.go(1000)
+            ok, value = self.world.ended()
+            heap = self.world.held(side)[0]
+            told = (ok, kind(heap, value), text_of(heap, value))
+            self.compare(told, (end[1], kind(self.heap, end[2]), self.text(end[2])))
+        return end
+
+    def hand(self, side, x):
+        done = Plain.hand(self, side, x)
+        if self.world is not None:
+            self.compare(self.world.hand(side, x), done)
+        return done
+
+    def revoke(self):
+        Plain.revoke(self)
+        # Code revokes by this method, too, and then the other world's code will.
+        if self.world is not None and self.doing == []:
+            self.world.revoke()
+            self.compare(None, None)
+
+    def unrevoke(self):
+        """As if nobody had revoked: there is no such thing in a world."""
+        self.revoked = False
+        self.world = None
+
+    def compare(self, told, wanted):
+        forms = [self.world.held(side) for side in SIDES]
+        gone = [len(made) for made in self.gone]
+        told = (told, [(len(form[1]),) + form[2:4] for form in forms])
+        wanted = (wanted, [(many, out, self.revoked) for many, out in zip(gone, self.outs)])
+        if told != wanted:
+            raise AssertionError(f"the worlds differ: {told}, plain {wanted}")
+        check_trace(self.world.trace())
+
+
 class World:
     """A plain world that takes statements as arguments and looks whether they are blocks."""
 
     def __init__(self, left=(), right=()):
-        self.plain = Plain(left, right)
+        self.plain = Both(left, right)
         self.read = [0, 0]
 
     def turn(self, side, statements, fuel=ENOUGH):

@@ -4,19 +4,13 @@ import unittest
 
 from building import (
     DONE, NONE, NOTHING, REVOKER, TRUE, World,
-    ask, attempt, back, call, do, ended, func, get, giving, less_one, let, name, num, put, refused, revoking, send,
-    show, thing, words,
+    ask, at_depth, attempt, back, call, do, ended, func, get, giving, less_one, let, name, num, put, refused, revoking,
+    send, show, thing, words,
 )
 
 from membrane.plain import Plain
 
 SIDES = ("left", "right")
-
-
-def at_depth(f, *statements):
-    """A function f of n that runs the statements n calls deep, itself the first one, and returns what they return."""
-    deeper = ("if", ("bin", "<", num(1), name("n")), (back(call(name(f), less_one("n"))),), ())
-    return func(("n",), deeper, *statements)
 
 
 def asking(f, text, *statements):
@@ -591,7 +585,7 @@ class PartsTest(CrossingTest):
             # What it has given is not handed over.
             self.assertEqual(at.gone(at.owner), at.numbers("f", "g"))
             self.assertIs(at.plain.revoked, True)
-            at.plain.revoked = False
+            at.plain.unrevoke()
             at.done(attempt(do(call(name("g")))))
             at.seen("!revoked")
             self.assertEqual(at.gone(at.owner), at.numbers("f", "g"))

@@ -3,7 +3,7 @@
 import doctest
 import unittest
 
-from membrane.errors import BadProgram
+from membrane.errors import BadProgram, BadTrace
 
 VALUES = """
 >>> from membrane.values import combined
@@ -54,6 +54,41 @@ POLICIES = """
 """
 
 
+WORLD = """
+>>> from membrane.world import World
+>>> world = World((), ())
+>>> world.begin("right", (("let", "o", ("object", (("a", ("const", ("int", 5))),), ())),))
+>>> many = world.go(1000)
+>>> told = world.hand("right", "o")
+>>> world.begin("left", (("print", ("get", ("name", "o"), "a")),))
+>>> many = world.go(1000)
+>>> told, world.out("left"), world.trace()[2:]
+(True, '5\\n', (('handed', 'right', 'o', ('right', 0, 'object')), ('turn', 'left'), ('request', 'left', 0, 0, ('get', 'a', ('right', 0, 'object'))), ('reply', True, ('int', 5)), ('end',)))
+"""
+
+TRACES = """
+>>> from membrane.traces import check_trace
+>>> check_trace((("turn", "left"), ("end",), ("end",)))
+raises BadTrace(place=2)
+"""
+
+REPLAY = """
+>>> from membrane.replay import Replay
+>>> replay = Replay("left", (), (("run", (("print", ("const", ("int", 1))),)),), (("turn", "left"), ("end",)))
+>>> many = replay.go(1000)
+>>> replay.result(), replay.place()
+(('same',), 2)
+"""
+
+DIFFERS = """
+>>> from membrane.replay import Replay
+>>> replay = Replay("left", (), (("run", (("print", ("const", ("int", 1))),)),), (("turn", "left"),))
+>>> many = replay.go(1000)
+>>> replay.result()
+('differs', 1)
+"""
+
+
 class ExamplesTest(unittest.TestCase):
     def assert_holds(self, name, text):
         example = doctest.DocTestParser().get_doctest(text, {}, name, None, 0)
@@ -62,15 +97,16 @@ class ExamplesTest(unittest.TestCase):
         result = doctest.DocTestRunner(verbose=False).run(example, out=said.append)
         self.assertEqual(result.failed, 0, "".join(said))
 
-    def assert_raises(self, name, text, error):
-        """The last line of the example raises the error, the lines ahead of it do not."""
+    def assert_raises(self, name, text, error, told=""):
+        """The last line of the example raises the error, the lines ahead of it do not; told are its fields."""
         example = doctest.DocTestParser().get_doctest(text, {}, name, None, 0)
         names = {}
         for line in example.examples[:-1]:
             exec(line.source, names)
-        with self.assertRaises(error):
+        with self.assertRaises(error) as caught:
             exec(example.examples[-1].source, names)
-        self.assertEqual(example.examples[-1].want, f"raises {error.__name__}\n")
+        self.assertEqual(example.examples[-1].want, f"raises {error.__name__}{told}\n")
+        return caught.exception
 
     def test_values(self):
         self.assert_holds("values", VALUES)
@@ -85,6 +121,18 @@ class ExamplesTest(unittest.TestCase):
 
     def test_plain(self):
         self.assert_holds("plain", PLAIN)
+
+    def test_world(self):
+        self.assert_holds("world", WORLD)
+
+    def test_traces(self):
+        error = self.assert_raises("traces", TRACES, BadTrace, "(place=2)")
+        self.assertEqual(error.place, 2)
+
+    def test_replay(self):
+        for name, text in (("replay", REPLAY), ("differs", DIFFERS)):
+            with self.subTest(name=name):
+                self.assert_holds(name, text)
 
     def test_policies(self):
         self.assert_holds("policies", POLICIES)

@@ -13,7 +13,7 @@ import unittest
 import warnings
 from pathlib import Path
 
-from membrane import errors, objects, plain, policies, programs, values
+from membrane import errors, objects, plain, policies, programs, replay, traces, values, world
 
 PACKAGE = Path(__file__).resolve().parent.parent / "membrane"
 
@@ -24,10 +24,18 @@ INTERFACE = {
     programs: ("check_block(block)",),
     plain: ("Plain(left, right)",),
     policies: ("check_policy(policy)", "asked(policy, n, operation)", "shown_names(policy, n, names)"),
+    world: ("World(left, right)",),
+    traces: ("check_trace(trace)",),
+    replay: ("Replay(side, policy, deeds, trace)",),
 }
 
 METHODS = {
     plain.Plain: ("run(self, side, block, fuel)", "hand(self, side, x)", "revoke(self)", "text(self, v)"),
+    world.World: (
+        "begin(self, side, block)", "go(self, many)", "state(self)", "ended(self)", "hand(self, side, x)",
+        "revoke(self)", "trace(self)", "out(self, side)", "steps(self, side)", "held(self, side)",
+    ),
+    replay.Replay: ("go(self, many)", "result(self)", "held(self)", "place(self)"),
 }
 
 LIBRARY = {
@@ -195,6 +203,51 @@ class LanguageTest(unittest.TestCase):
                     changed = isinstance(node, (ast.Subscript, ast.Attribute)) and isinstance(node.ctx, ast.Store)
                     if changed and isinstance(node.value, ast.Name):
                         self.assertNotIn(node.value.id, told, f"{name}:{node.lineno}")
+
+    def test_what_stands_at_module_level_is_not_passed_on(self):
+        # Lists and dicts that stand there are read in place, and functions in them are given a name ahead of a call.
+        for name, tree in trees():
+            told = [
+                node.targets[0].id for node in tree.body
+                if isinstance(node, ast.Assign) and isinstance(node.value, (ast.List, ast.Dict))
+            ]
+            for node in ast.walk(tree):
+                if isinstance(node, ast.Call):
+                    self.assertNotIsInstance(node.func, (ast.Subscript, ast.Call), f"{name}:{node.lineno}")
+                    for part in node.args + [keyword.value for keyword in node.keywords]:
+                        self.assertFalse(isinstance(part, ast.Name) and part.id in told, f"{name}:{node.lineno}")
+                if isinstance(node, (ast.Return, ast.Assign)):
+                    given = getattr(node.value, "id", None)
+                    self.assertNotIn(given, told, f"{name}:{node.lineno}")
+
+    def test_names_of_methods_and_attributes(self):
+        # A name is a method or an attribute; but BadTrace has the field place, and Replay the method.
+        methods, attributes = set(), set()
+        for _, tree in trees():
+            for node in ast.walk(tree):
+                if isinstance(node, ast.ClassDef):
+                    told = [part.name for part in node.body if isinstance(part, ast.FunctionDef)]
+                    self.assertEqual(len(told), len(set(told)), node.name)
+                    methods.update(told)
+                if isinstance(node, ast.Attribute) and isinstance(node.ctx, ast.Store):
+                    attributes.add(node.attr)
+        self.assertEqual(methods & attributes, {"place"})
+
+    def test_no_method_is_read_off_a_class(self):
+        classes = {node.name for _, node in nodes(ast.ClassDef)}
+        for place, node in nodes(ast.Attribute):
+            self.assertFalse(isinstance(node.value, ast.Name) and node.value.id in classes, place)
+
+    def test_imports_make_no_circle(self):
+        told = {
+            path.stem: set(re.findall(r"^from membrane\.(\w+) import", path.read_text(encoding="utf-8"), re.MULTILINE))
+            for path in files()
+        }
+        while told:
+            free = [name for name, needed in told.items() if not needed & set(told)]
+            self.assertTrue(free, told)
+            for name in free:
+                del told[name]
 
     def test_the_program_prints_and_reads_nothing(self):
         for path in files():

@@ -1,4 +1,4 @@
-"""Long chains of parents, and deep programs and calls, need no nested calls in the plain world (c1)."""
+"""Long chains of parents, and deep programs and calls, need no nested calls of the program's functions (c1)."""
 
 import inspect
 import sys
@@ -9,6 +9,7 @@ from building import (
     ask, attempt, back, call, do, ended, func, get, less_one, let, name, num, plus, put, refused, send, show, thing,
     words,
 )
+from leading import Led
 
 from membrane.errors import BadProgram
 from membrane.programs import check_block
@@ -89,6 +90,64 @@ class ChainTest(FewCallsTest):
         self.assertEqual(self.world.right(back(get(name("p"), "a"))), ended(("int", 1)))
         self.assertEqual(self.world.left(put(name("o"), "c", num(6))), DONE)
         self.assertEqual(self.world.left(back(("names", name("o")))), ended(("text", "a c")))
+
+
+class WorldTest(FewCallsTest):
+    """In a world with a membrane, and in replays of both sides."""
+
+    def setUp(self):
+        FewCallsTest.setUp(self)
+        self.led = Led()
+        getter = func((), back(plus(words("me is "), ("kind", name("me")))))
+        setter = func(("w",), put(name("p"), "d", name("w")))
+        self.assertEqual(self.led.right(
+            let("o", thing(a=num(1), b=num(2), d=num(3))), let("p", name("o")), ask(name("p"), "g", getter, setter),
+            put(name("p"), "f", func(("x",), back(plus(name("x"), num(1))))), ("fix", name("p"), "b"), *longer("o"),
+        ), (True, ("none",)))
+        self.led.hand("right", "o", "p")
+        self.led.events()
+
+    def is_replayed(self):
+        for side in ("left", "right"):
+            replay = self.led.replay(side)
+            self.assertEqual(replay.go(10 ** 9), self.led.world.steps(side))
+            self.assertEqual((replay.result(), replay.place()), (("same",), len(self.led.world.trace())))
+            self.assertTrue(replay.held() == self.led.world.held(side))
+
+    def test_read_and_written_at_its_end(self):
+        for side in ("right", "left"):
+            for e, end in (
+                (get(name("o"), "a"), (True, ("int", 1))), (get(name("o"), "z"), (False, ("text", "no such name"))),
+                (("has", name("o"), "b"), (True, ("bool", True))), (("has", name("o"), "z"), (True, ("bool", False))),
+                (get(name("o"), "g"), (True, ("text", "me is object"))),
+                (send(name("o"), "f", num(4)), (True, ("int", 5))),
+            ):
+                self.assertEqual(self.led.turn(side, back(e)), end)
+            self.assertEqual(self.led.turn(side, put(name("o"), "b", num(7))), (False, ("text", "fixed")))
+            self.assertEqual(self.led.turn(side, put(name("o"), "g", num(8))), (True, ("none",)))
+            self.assertEqual(self.led.turn(side, back(get(name("o"), "d"))), (True, ("int", 8)))
+            end = self.led.turn(
+                side, put(name("o"), "d", num(3)), put(name("o"), "c", num(9)), back(("names", name("o"))),
+            )
+            self.assertEqual(end, (True, ("text", "d c")))
+            self.led.right(("drop", name("o"), "c"), ("drop", name("o"), "d"), put(name("p"), "d", num(3)))
+        self.is_replayed()
+
+    def test_a_chain_of_each_side(self):
+        self.assertEqual(self.led.left(*longer("o")), (True, ("none",)))
+        self.led.hand("left", "o")
+        for side in ("left", "right"):
+            self.assertEqual(self.led.turn(side, back(get(name("o"), "a"))), (True, ("int", 1)))
+            end = self.led.turn(side, put(name("o"), "a", num(5)), back(get(name("p"), "a")))
+            self.assertEqual(end, (True, ("int", 1)))
+            end = self.led.turn(side, put(name("o"), "z", num(6)), back(get(name("o"), "a")))
+            self.assertEqual(end, (True, ("int", 5)))
+            self.assertEqual(self.led.left(("drop", name("o"), "a")), (True, ("none",)))
+        self.is_replayed()
+
+    def test_one_request_for_a_whole_chain(self):
+        self.led.left(do(get(name("o"), "a")))
+        self.assertEqual([event[0] for event in self.led.events()], ["turn", "request", "reply", "end"])
 
 
 class DeepTest(FewCallsTest):
